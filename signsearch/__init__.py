@@ -1,0 +1,1 @@
+"""Search in texts of signs."""
