@@ -1,19 +1,18 @@
 """The calls: each answers a list, its first number the answer or, below 0, a refusal."""
 
+from signsearch.asked import MOST_PATTERN_BYTES, NO_REFUSAL, TOO_LONG, ask_pattern, ask_search
 from signsearch.cursor import Cursor
+from signsearch.fitter import Fitter, row_fits
 from signsearch.members import signs_of
 from signsearch.patterns import RUN, read_pattern
-from signsearch.signlist import read_list
+from signsearch.possible import row_of
+from signsearch.search import Search
 
-MOST_LIST_BYTES = 1048576
-MOST_PATTERN_BYTES = 4096
+MOST_ROW_NUMBERS = 65536
 
-TOO_LONG = -2
-NO_LIST = -3
 NOT_THERE = -4
 NONE_TO_TELL = -5
 JUDGED_WRONG = -6
-NO_PATTERN = -10
 
 
 def judge(p):
@@ -27,17 +26,41 @@ def judge(p):
 
 
 def set_of(k, b, p):
-    if len(b) > MOST_LIST_BYTES or len(p) > MOST_PATTERN_BYTES:
-        return [TOO_LONG]
-    signs = read_list(Cursor(b))
-    if signs is None:
-        return [NO_LIST]
-    atoms = read_pattern(Cursor(p))
-    if atoms is None:
-        return [NO_PATTERN]
-    if k >= len(atoms):
+    asked = ask_pattern(b, p)
+    if asked.refusal != NO_REFUSAL:
+        return [asked.refusal]
+    if k >= len(asked.atoms):
         return [NOT_THERE]
-    if atoms[k].kind == RUN:
+    if asked.atoms[k].kind == RUN:
         return [NONE_TO_TELL]
-    numbers = signs_of(atoms[k], signs)
+    numbers = signs_of(asked.atoms[k], asked.signs)
     return [len(numbers)] + numbers
+
+
+def fits(b, p, r):
+    if len(r) > MOST_ROW_NUMBERS:
+        return [TOO_LONG]
+    asked = ask_pattern(b, p)
+    if asked.refusal != NO_REFUSAL:
+        return [asked.refusal]
+    if max(r, default=0) >= len(asked.signs):
+        return [NOT_THERE]
+    return [1 if row_fits(r, Fitter(asked.atoms, asked.signs)) else 0]
+
+
+# Only of what isn't refused.
+def search_of(how, asked):
+    return Search(how, row_of(asked.text, asked.signs), Fitter(asked.atoms, asked.signs))
+
+
+def next_of(how, i, b, t, p):
+    asked = ask_search(how, b, t, p)
+    if asked.refusal != NO_REFUSAL:
+        return [asked.refusal]
+    search = search_of(how, asked)
+    if i >= len(search.places):
+        return [NOT_THERE]
+    find = search.first_find(i)
+    if find is None:
+        return [NONE_TO_TELL]
+    return [0, find[0], find[1]]

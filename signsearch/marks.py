@@ -1,19 +1,37 @@
-"""The bytes that lists of signs and patterns are written with."""
+"""The bytes that lists of signs, texts and patterns are written with."""
 
 LINE_END = 10
 BLANK = 32
 BANG = 33
 INK = 35
+PERCENT = 37
+AMPERSAND = 38
+PAREN = 40
+END_PAREN = 41
 STAR = 42
 COMMA = 44
 DOT = 46
 DIGIT_0 = 48
 DIGIT_1 = 49
 DIGIT_9 = 57
+COLON = 58
+SEMICOLON = 59
+RING = 60
 EQUALS = 61
+END_RING = 62
+QUERY = 63
 CAPITAL_A = 65
 CAPITAL_Z = 90
+BRACKET = 91
+END_BRACKET = 93
+UNDERLINE = 95
 SMALL_A = 97
+SMALL_C = 99
+SMALL_E = 101
+SMALL_N = 110
+SMALL_S = 115
+SMALL_W = 119
 SMALL_Z = 122
 BRACE = 123
 END_BRACE = 125
+TILDE = 126

@@ -5,6 +5,7 @@ Each read_.. answers None where the text is no right list.
 
 from signsearch.marks import BLANK, DOT, INK, LINE_END
 from signsearch.names import read_name, take_small_letter
+from signsearch.shapes import ink_cells
 
 SIGN_AND_BLANK = (115, 105, 103, 110, 32)
 MOST_SIGNS = 512
@@ -13,10 +14,12 @@ MOST_LETTERS = 8
 MOST_CELLS = 32
 
 
+# ink: the shape's cells with ink, as a set of cells.
 class Sign:
     def __init__(self, name, shape):
         self.name = name
         self.shape = shape
+        self.ink = ink_cells(shape)
 
 
 # What is too long for a limit is left unread: no right list goes on with it.

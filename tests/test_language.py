@@ -22,6 +22,8 @@ METHODS = set("""append clear copy count endswith extend find get index insert i
 WORDS = re.compile(r"\b(type|typing|typing_extensions|enum|Enum|IntEnum|StrEnum|Flag|IntFlag|Generic|Protocol|ABC|"
                    r"ABCMeta|namedtuple|NamedTuple|TypedDict|TYPE_CHECKING|abstractmethod)\b|"
                    r"dataclass|overload|contextmanager")
+NO_VALUES = set("""items keys values pop update append clear extend insert remove reverse setdefault sort args encode
+    format""".split())
 NEVER = {"register", "mro", "elements", "open", "input", "version_info", "with_traceback", "add_note"}
 
 
@@ -105,6 +107,44 @@ class LanguageTest(unittest.TestCase):
                 if isinstance(node, ast.Attribute):
                     self.assertIn(node.attr, own | METHODS)
                     self.assertNotIn(node.attr, NEVER)
+
+    def test_methods_and_values(self):
+        methods = set()
+        values = set()
+        for path, nodes in sources_and_nodes():
+            for node in nodes:
+                if isinstance(node, ast.ClassDef):
+                    methods |= {part.name for part in node.body if isinstance(part, ast.FunctionDef)}
+                if isinstance(node, ast.Attribute) and isinstance(node.ctx, ast.Store):
+                    values.add(node.attr)
+        self.assertEqual(methods & values, set())
+        self.assertEqual(values & NO_VALUES, set())
+
+    def test_is_stands_beside_none_true_and_false(self):
+        for path, nodes in sources_and_nodes():
+            for node in nodes:
+                if isinstance(node, ast.Compare) and isinstance(node.ops[0], (ast.Is, ast.IsNot)):
+                    self.assertIsInstance(node.comparators[0], ast.Constant, node.lineno)
+                    self.assertIn(node.comparators[0].value, (None, True, False), node.lineno)
+
+    def test_no_two_files_draw_from_one_another(self):
+        drawn = {}
+        for path, nodes in sources_and_nodes():
+            modules = [node.module for node in nodes if isinstance(node, ast.ImportFrom)]
+            drawn["signsearch." + path.stem] = modules
+        while drawn:
+            free = [name for name, modules in drawn.items() if not any(module in drawn for module in modules)]
+            self.assertNotEqual(free, [], drawn)
+            for name in free:
+                drawn.pop(name)
+
+    def test_plain_values_at_the_top(self):
+        plain = (ast.Constant, ast.Tuple, ast.List, ast.Dict, ast.UnaryOp, ast.USub, ast.Load)
+        for path in sources():
+            for statement in ast.parse(path.read_text(encoding="ascii")).body:
+                if isinstance(statement, ast.Assign):
+                    for node in ast.walk(statement.value):
+                        self.assertIsInstance(node, plain, path.name)
 
     def test_imports(self):
         for path, nodes in sources_and_nodes():

@@ -1,14 +1,108 @@
 import unittest
 
-from helper import RUN_LIST, as_bytes, long_pattern
-from signsearch.finds import judge, set_of
+from helper import RUN_LIST, as_bytes, long_pattern, long_text
+from signsearch.finds import fits, judge, next_of, set_of
 
 WRONG_LIST = "sign A1/"
 WRONG_PATTERN = "A1 "
+WRONG_TEXT = "A1"
+UNKNOWN_TEXT = "A1 B7/"
 LARGEST = 1048576
+TOO_LONG_LIST = "#" * (LARGEST + 1)
+TOO_LONG_PATTERN = "a" * 4097
 
 
-class RefusalTest(unittest.TestCase):
+class FitsRefusalTest(unittest.TestCase):
+    def check(self, signs, pattern, numbers, answer):
+        self.assertEqual(fits(as_bytes(signs), as_bytes(pattern), list(numbers)), answer)
+
+    def test_each_by_itself(self):
+        self.check(TOO_LONG_LIST, "A1", [0], [-2])
+        self.check(RUN_LIST, long_pattern(4097), [0], [-2])
+        self.check(RUN_LIST, "..", [0] * 65537, [-2])
+        self.check(WRONG_LIST, "A1", [0], [-3])
+        self.check(RUN_LIST, WRONG_PATTERN, [0], [-10])
+        self.check(RUN_LIST, "A1", [3], [-4])
+
+    def test_sizes_at_their_edges(self):
+        self.check("#" * LARGEST, "A1", [0], [-3])
+        self.check(RUN_LIST, long_pattern(4096), [1] * 64, [0])
+        self.check(RUN_LIST, "a" * 4096, [0], [-10])
+        self.check(RUN_LIST, "..", [0] * 65536, [1])
+        self.check(RUN_LIST, "..", [3] * 65536, [-4])
+
+    def test_their_order(self):
+        self.check(WRONG_LIST, WRONG_PATTERN, [9] * 65537, [-2])
+        self.check(WRONG_LIST, TOO_LONG_PATTERN, [9], [-2])
+        self.check(TOO_LONG_LIST, WRONG_PATTERN, [9], [-2])
+        self.check(WRONG_LIST, WRONG_PATTERN, [9], [-3])
+        self.check(WRONG_LIST, "A1", [9], [-3])
+        self.check(RUN_LIST, WRONG_PATTERN, [9], [-10])
+        self.check(RUN_LIST, WRONG_PATTERN, [], [-10])
+        self.check("", "", [], [-3])
+        self.check(RUN_LIST, "", [], [-10])
+
+
+class NextRefusalTest(unittest.TestCase):
+    def check(self, how, i, signs, text, pattern, answer):
+        self.assertEqual(next_of(how, i, as_bytes(signs), as_bytes(text), as_bytes(pattern)), answer)
+
+    def test_each_by_itself(self):
+        self.check(0, 0, TOO_LONG_LIST, "A1/", "A1", [-2])
+        self.check(0, 0, RUN_LIST, long_text(2049), "A1", [-2])
+        self.check(0, 0, RUN_LIST, "A1/", long_pattern(4097), [-2])
+        self.check(2, 0, RUN_LIST, "A1/", "A1", [-1])
+        self.check(0, 0, WRONG_LIST, "A1/", "A1", [-3])
+        self.check(0, 0, RUN_LIST, WRONG_TEXT, "A1", [-6])
+        self.check(0, 0, RUN_LIST, "A1/", WRONG_PATTERN, [-10])
+        self.check(0, 0, RUN_LIST, UNKNOWN_TEXT, "A1", [-9])
+        self.check(0, 1, RUN_LIST, "A1/", "A1", [-4])
+        self.check(0, 0, RUN_LIST, "A1/", "A2", [-5])
+
+    def test_sizes_at_their_edges(self):
+        self.check(0, 0, "#" * LARGEST, "A1/", "A1", [-3])
+        self.check(0, 0, RUN_LIST, long_text(2046), "A1", [0, 0, 0])
+        self.check(0, 0, RUN_LIST, long_text(2048), "A1", [-9])
+        self.check(0, 0, RUN_LIST, "A" * 2048, "A1", [-6])
+        self.check(0, 0, RUN_LIST, "A" * 2049, "A1", [-2])
+        self.check(0, 0, RUN_LIST, "A1/", long_pattern(4096), [-5])
+        self.check(0, 0, RUN_LIST, "A1/", "a" * 4096, [-10])
+
+    def test_their_order(self):
+        self.check(2, 9, WRONG_LIST, WRONG_TEXT, TOO_LONG_PATTERN, [-2])
+        self.check(2, 9, WRONG_LIST, long_text(2049), WRONG_PATTERN, [-2])
+        self.check(2, 9, TOO_LONG_LIST, WRONG_TEXT, WRONG_PATTERN, [-2])
+        self.check(2, 0, RUN_LIST, long_text(2049), "A1", [-2])
+        self.check(2, 9, WRONG_LIST, WRONG_TEXT, WRONG_PATTERN, [-1])
+        self.check(2, 0, WRONG_LIST, "A1/", "A1", [-1])
+        self.check(0, 9, WRONG_LIST, WRONG_TEXT, WRONG_PATTERN, [-3])
+        self.check(0, 0, WRONG_LIST, WRONG_TEXT, "A1", [-3])
+        self.check(0, 9, RUN_LIST, WRONG_TEXT, WRONG_PATTERN, [-6])
+        self.check(0, 0, RUN_LIST, "B7", "A1", [-6])
+        self.check(0, 9, RUN_LIST, UNKNOWN_TEXT, WRONG_PATTERN, [-10])
+        self.check(0, 9, RUN_LIST, UNKNOWN_TEXT, "A1", [-9])
+        self.check(0, 0, RUN_LIST, UNKNOWN_TEXT, "Z9", [-9])
+        self.check(0, 1, RUN_LIST, "A1/", "A2", [-4])
+        self.check(0, 0, RUN_LIST, ".../", "A2", [-4])
+        self.check(1, 0, RUN_LIST, "A1? A2/", "A1", [-5])
+
+    def test_a_sign_that_the_list_has_not(self):
+        for text in ("B7/", "A1 B7/", "A1[nB7]/", "<A1 B7>/", "A1:(A1:B7)*A1/", "A4/", "A1a/", "Aa1/", "B7?/", "B7%1/", "B7~/",
+                     "A11/", "A1/A1/.../B7/"):
+            self.check(0, 0, RUN_LIST, text, "A1", [-9])
+        for text in ("_1/", ".../"):
+            self.check(0, 0, RUN_LIST, text, "A1", [-4])
+
+    def test_nothing_is_kept(self):
+        first = next_of(0, 0, as_bytes(RUN_LIST), as_bytes("A1 A2/"), as_bytes("A2"))
+        self.assertEqual(first, [0, 1, 1])
+        first.append(7)
+        self.check(0, 0, "sign A1/#/", "A1 A2/", "A2", [-9])
+        self.check(0, 0, RUN_LIST, "A2/", "A2", [0, 0, 0])
+        self.check(0, 0, RUN_LIST, "A1 A2/", "A2", [0, 1, 1])
+
+
+class SetRefusalTest(unittest.TestCase):
     def check(self, k, signs, pattern, answer):
         self.assertEqual(set_of(k, as_bytes(signs), as_bytes(pattern)), answer)
 
