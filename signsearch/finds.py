@@ -64,3 +64,24 @@ def next_of(how, i, b, t, p):
     if find is None:
         return [NONE_TO_TELL]
     return [0, find[0], find[1]]
+
+
+def count(how, b, t, p):
+    asked = ask_search(how, b, t, p)
+    if asked.refusal != NO_REFUSAL:
+        return [asked.refusal]
+    return [len(search_of(how, asked).all_finds())]
+
+
+def told(finds):
+    answer = [len(finds)]
+    for find in finds:
+        answer.extend(find)
+    return answer
+
+
+def all_of(how, b, t, p):
+    asked = ask_search(how, b, t, p)
+    if asked.refusal != NO_REFUSAL:
+        return [asked.refusal]
+    return told(search_of(how, asked).all_finds())

@@ -49,3 +49,11 @@ class Search:
             if end != NO_END:
                 return (place, end)
         return None
+
+    def all_finds(self):
+        finds = []
+        for start in range(len(self.places)):
+            end = self.least_end(start)
+            if end != NO_END:
+                finds.append((start, end))
+        return finds

@@ -1,7 +1,7 @@
 import unittest
 
 from helper import RUN_LIST, as_bytes, long_pattern, long_text
-from signsearch.finds import fits, judge, next_of, set_of
+from signsearch.finds import all_of, count, fits, judge, next_of, set_of
 
 WRONG_LIST = "sign A1/"
 WRONG_PATTERN = "A1 "
@@ -100,6 +100,53 @@ class NextRefusalTest(unittest.TestCase):
         self.check(0, 0, "sign A1/#/", "A1 A2/", "A2", [-9])
         self.check(0, 0, RUN_LIST, "A2/", "A2", [0, 0, 0])
         self.check(0, 0, RUN_LIST, "A1 A2/", "A2", [0, 1, 1])
+
+
+class SearchRefusalTest(unittest.TestCase):
+    """The calls that tell all finds are refused alike."""
+
+    def check(self, how, signs, text, pattern, answer):
+        for call in (count, all_of):
+            self.assertEqual(call(how, as_bytes(signs), as_bytes(text), as_bytes(pattern)), answer, call)
+
+    def test_each_by_itself(self):
+        self.check(0, TOO_LONG_LIST, "A1/", "A1", [-2])
+        self.check(0, RUN_LIST, long_text(2049), "A1", [-2])
+        self.check(0, RUN_LIST, "A1/", long_pattern(4097), [-2])
+        for how in (2, 3, 4294967295):
+            self.check(how, RUN_LIST, "A1/", "A1", [-1])
+        self.check(0, WRONG_LIST, "A1/", "A1", [-3])
+        self.check(0, RUN_LIST, WRONG_TEXT, "A1", [-6])
+        self.check(0, RUN_LIST, "A1/", WRONG_PATTERN, [-10])
+        self.check(0, RUN_LIST, UNKNOWN_TEXT, "A1", [-9])
+
+    def test_no_find_is_not_refused(self):
+        self.check(0, RUN_LIST, "A1/", "A2", [0])
+        self.check(0, RUN_LIST, "_1/", "A2", [0])
+        self.check(1, RUN_LIST, ".../", "A2", [0])
+
+    def test_sizes_at_their_edges(self):
+        self.check(0, "#" * LARGEST, "A1/", "A1", [-3])
+        self.check(0, RUN_LIST, long_text(2046), "A2", [0])
+        self.check(0, RUN_LIST, long_text(2048), "A1", [-9])
+        self.check(0, RUN_LIST, "A" * 2048, "A1", [-6])
+        self.check(0, RUN_LIST, "A" * 2049, "A1", [-2])
+        self.check(0, RUN_LIST, "A1/", long_pattern(4096), [0])
+        self.check(0, RUN_LIST, "A1/", "a" * 4096, [-10])
+
+    def test_their_order(self):
+        self.check(2, WRONG_LIST, WRONG_TEXT, TOO_LONG_PATTERN, [-2])
+        self.check(2, WRONG_LIST, long_text(2049), WRONG_PATTERN, [-2])
+        self.check(2, TOO_LONG_LIST, WRONG_TEXT, WRONG_PATTERN, [-2])
+        self.check(2, RUN_LIST, "A1/", TOO_LONG_PATTERN, [-2])
+        self.check(2, WRONG_LIST, WRONG_TEXT, WRONG_PATTERN, [-1])
+        self.check(2, WRONG_LIST, "A1/", "A1", [-1])
+        self.check(1, WRONG_LIST, WRONG_TEXT, WRONG_PATTERN, [-3])
+        self.check(0, WRONG_LIST, WRONG_TEXT, "A1", [-3])
+        self.check(0, RUN_LIST, WRONG_TEXT, WRONG_PATTERN, [-6])
+        self.check(0, RUN_LIST, "B7", "A1", [-6])
+        self.check(0, RUN_LIST, UNKNOWN_TEXT, WRONG_PATTERN, [-10])
+        self.check(1, RUN_LIST, UNKNOWN_TEXT, "A1", [-9])
 
 
 class SetRefusalTest(unittest.TestCase):
