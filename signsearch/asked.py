@@ -9,6 +9,7 @@ from signsearch.texts import read_text
 
 MOST_LIST_BYTES = 1048576
 MOST_TEXT_BYTES = 2048
+MOST_TEXT_BYTES_OF_PIECES = 65536
 MOST_PATTERN_BYTES = 4096
 
 NO_REFUSAL = 0
@@ -61,3 +62,9 @@ def ask_search(how, b, t, p):
     if how > SURELY:
         return refused(NO_SUCH_HOW)
     return read_asked(b, t, p)
+
+
+def ask_pieces(b, t):
+    if len(b) > MOST_LIST_BYTES or len(t) > MOST_TEXT_BYTES_OF_PIECES:
+        return refused(TOO_LONG)
+    return read_asked(b, t, None)

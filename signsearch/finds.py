@@ -1,10 +1,11 @@
 """The calls: each answers a list, its first number the answer or, below 0, a refusal."""
 
-from signsearch.asked import MOST_PATTERN_BYTES, NO_REFUSAL, TOO_LONG, ask_pattern, ask_search
+from signsearch.asked import MOST_PATTERN_BYTES, NO_REFUSAL, TOO_LONG, ask_pattern, ask_pieces, ask_search
 from signsearch.cursor import Cursor
 from signsearch.fitter import Fitter, row_fits
 from signsearch.members import signs_of
 from signsearch.patterns import RUN, read_pattern
+from signsearch.pieces import pieces_of, places_of
 from signsearch.possible import row_of
 from signsearch.search import Search
 
@@ -85,3 +86,20 @@ def all_of(how, b, t, p):
     if asked.refusal != NO_REFUSAL:
         return [asked.refusal]
     return told(search_of(how, asked).all_finds())
+
+
+def order(how, b, t, p):
+    asked = ask_search(how, b, t, p)
+    if asked.refusal != NO_REFUSAL:
+        return [asked.refusal]
+    return told(search_of(how, asked).finds_in_order())
+
+
+def place(i, b, t):
+    asked = ask_pieces(b, t)
+    if asked.refusal != NO_REFUSAL:
+        return [asked.refusal]
+    places = places_of(pieces_of(asked.text))
+    if i >= len(places):
+        return [NOT_THERE]
+    return [places[i]]

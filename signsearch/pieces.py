@@ -32,6 +32,15 @@ def lost_item():
     return Item(LOST, None, [], False, False)
 
 
+def pieces_of(items):
+    return [item for item in items if item.kind != LOST]
+
+
+# For each place the number of its piece.
+def places_of(pieces):
+    return [number for number, piece in enumerate(pieces) if piece.is_place()]
+
+
 # Each quarter is asked for once, so one that doesn't rise is left unread: no right text goes on with it.
 def read_quarters(cursor):
     if not cursor.take(PERCENT):

@@ -2,6 +2,7 @@
 
 SURELY = 1
 NO_END = -1
+MOST_FOLLOWING = 16
 
 
 # For each place of the row the atoms that some sign of it is of, for each break None.
@@ -16,6 +17,13 @@ def atoms_along(how, row, fitter):
         else:
             along.append(fitter.atoms_of_some(numbers))
     return along
+
+
+# What a place or a break of the row counts where finds are put in order.
+def weight_of(numbers):
+    if numbers is None or numbers == []:
+        return 0
+    return numbers[0] + 1
 
 
 # places: for each place where it stands in the row.
@@ -57,3 +65,11 @@ class Search:
             if end != NO_END:
                 finds.append((start, end))
         return finds
+
+    def following(self, end):
+        first = self.places[end] + 1
+        return [weight_of(numbers) for numbers in self.row[first:first + MOST_FOLLOWING]]
+
+    # Lists are in order as what follows is: by the first that differs, and what ends before the other stands first.
+    def finds_in_order(self):
+        return sorted(self.all_finds(), key=lambda find: (self.following(find[1]), find[0]))

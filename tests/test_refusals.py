@@ -1,7 +1,7 @@
 import unittest
 
 from helper import RUN_LIST, as_bytes, long_pattern, long_text
-from signsearch.finds import all_of, count, fits, judge, next_of, set_of
+from signsearch.finds import all_of, count, fits, judge, next_of, order, place, set_of
 
 WRONG_LIST = "sign A1/"
 WRONG_PATTERN = "A1 "
@@ -106,7 +106,7 @@ class SearchRefusalTest(unittest.TestCase):
     """The calls that tell all finds are refused alike."""
 
     def check(self, how, signs, text, pattern, answer):
-        for call in (count, all_of):
+        for call in (count, all_of, order):
             self.assertEqual(call(how, as_bytes(signs), as_bytes(text), as_bytes(pattern)), answer, call)
 
     def test_each_by_itself(self):
@@ -147,6 +147,39 @@ class SearchRefusalTest(unittest.TestCase):
         self.check(0, RUN_LIST, "B7", "A1", [-6])
         self.check(0, RUN_LIST, UNKNOWN_TEXT, WRONG_PATTERN, [-10])
         self.check(1, RUN_LIST, UNKNOWN_TEXT, "A1", [-9])
+
+
+class PlaceRefusalTest(unittest.TestCase):
+    """place has an own limit of the text's size, and no pattern."""
+
+    def check(self, number, signs, text, answer):
+        self.assertEqual(place(number, as_bytes(signs), as_bytes(text)), answer)
+
+    def test_each_by_itself(self):
+        self.check(0, TOO_LONG_LIST, "A1/", [-2])
+        self.check(0, RUN_LIST, long_text(65537), [-2])
+        self.check(0, WRONG_LIST, "A1/", [-3])
+        self.check(0, RUN_LIST, WRONG_TEXT, [-6])
+        self.check(0, RUN_LIST, UNKNOWN_TEXT, [-9])
+        self.check(1, RUN_LIST, "A1/", [-4])
+
+    def test_sizes_at_their_edges(self):
+        self.check(0, "#" * LARGEST, "A1/", [-3])
+        self.check(0, RUN_LIST, long_text(2049), [0])
+        self.check(0, RUN_LIST, long_text(65535), [0])
+        self.check(0, RUN_LIST, long_text(65536), [-9])
+        self.check(0, RUN_LIST, "A" * 65536, [-6])
+        self.check(0, RUN_LIST, "A" * 65537, [-2])
+
+    def test_their_order(self):
+        self.check(9, WRONG_LIST, long_text(65537), [-2])
+        self.check(9, TOO_LONG_LIST, WRONG_TEXT, [-2])
+        self.check(9, WRONG_LIST, WRONG_TEXT, [-3])
+        self.check(9, WRONG_LIST, UNKNOWN_TEXT, [-3])
+        self.check(9, RUN_LIST, WRONG_TEXT, [-6])
+        self.check(0, RUN_LIST, "B7", [-6])
+        self.check(9, RUN_LIST, UNKNOWN_TEXT, [-9])
+        self.check(0, RUN_LIST, UNKNOWN_TEXT, [-9])
 
 
 class SetRefusalTest(unittest.TestCase):
