@@ -103,3 +103,15 @@ def place(i, b, t):
     if i >= len(places):
         return [NOT_THERE]
     return [places[i]]
+
+
+def piece(k, b, t):
+    asked = ask_pieces(b, t)
+    if asked.refusal != NO_REFUSAL:
+        return [asked.refusal]
+    pieces = pieces_of(asked.text)
+    if k >= len(pieces):
+        return [NOT_THERE]
+    if not pieces[k].is_place():
+        return [NONE_TO_TELL]
+    return [len(places_of(pieces[:k]))]

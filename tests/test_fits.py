@@ -62,6 +62,8 @@ class FitsTest(unittest.TestCase):
     def test_an_empty_row(self):
         self.check([("..", [()], []), (" ".join([".."] * 64), [()], []), ("A1", [], [()]), (".. . ..", [], [()]),
                     ("Z9", [], [()]), ("!.", [], [()])])
+        self.assertEqual(self.answer("..", [], list_of("A1")), [1])
+        self.assertEqual(self.answer("A1", [], list_of("A1")), [0])
 
     def test_an_atom_without_signs(self):
         rows = [(), (0,), (0, 1), (0, 1, 2)]

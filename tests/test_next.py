@@ -78,6 +78,7 @@ class NextTest(unittest.TestCase):
             (0, "A1 .. A2", [(0, 1), None]), (1, "A1 .. A2", [None, None]),
             (0, "A1 .. A3 .. A2", [(0, 1), None]),
             (0, "A1 Z9 A2", [None, None]), (0, "A1 !. A2", [None, None]), (0, "A1 .. Z9 .. A2", [None, None]),
+            (0, "A1 A3 Z9 A2", [None, None]), (0, "A1 A3 A3 Z9 A2", [None, None]), (0, "A1 Z9 A3 A2", [None, None]),
             (0, "A1 A3", [None, None]), (0, "A3 A2", [None, None]), (0, "A3", [None, None]),
             (0, "A1 ..", [(0, 0), None]), (1, "A1 ..", [(0, 0), None]), (0, ".. A2", [(0, 1), (1, 1)]),
             (1, ".. A2", [(1, 1), (1, 1)]),

@@ -1,30 +1,37 @@
-"""place: which piece stands at a place."""
+"""place and piece: which piece stands at a place, and at which place a piece stands."""
 
 import random
 import re
 import unittest
 
 from helper import Fixed, RUN_LIST, RUN_TEXT, SMALL_LIST, as_bytes, list_of, long_text, small_text
-from signsearch.finds import place
+from signsearch.finds import piece, place
 
 SIGNS = list_of("A1", "A2", "A3")
 PIECE = re.compile("(?:[A-Z][a-z]?[0-9]+[a-z]?|_[0-9]+)[~%?0-9]*")
 
 
 def pieces_at_places(text):
-    """By the text's letters alone: all pieces, and of them the numbers of those that are places."""
-    pieces = PIECE.findall(text)
-    return [number for number, piece in enumerate(pieces) if piece[0] != "_" or piece.endswith("%1234")]
+    """By the text's letters alone: for each place the number of its piece."""
+    found = PIECE.findall(text)
+    return [number for number, letters in enumerate(found) if letters[0] != "_" or letters.endswith("%1234")]
 
 
 class PlaceTest(unittest.TestCase):
     def check(self, text, pieces, signs=SIGNS):
-        """pieces: for each place its piece."""
+        """pieces: for each place its piece; so it's asked at which place each piece stands, too."""
         given = (as_bytes(signs), as_bytes(text))
-        answers = [place(i, *given) for i in range(len(pieces) + 2)]
-        self.assertEqual(answers, [[piece] for piece in pieces] + [[-4], [-4]], text)
-        self.assertEqual(place(4294967295, *given), [-4])
         self.assertEqual(pieces_at_places(text), pieces)
+        answers = [place(i, *given) for i in range(len(pieces) + 2)]
+        self.assertEqual(answers, [[number] for number in pieces] + [[-4], [-4]], text)
+        self.assertEqual(place(4294967295, *given), [-4])
+        count = len(PIECE.findall(text))
+        answers = [piece(k, *given) for k in range(count + 2)]
+        expected = [[pieces.index(k)] if k in pieces else [-5] for k in range(count)]
+        self.assertEqual(answers, expected + [[-4], [-4]], text)
+        self.assertEqual(piece(4294967295, *given), [-4])
+        for i in range(len(pieces)):
+            self.assertEqual(piece(place(i, *given)[0], *given), [i])
 
     def test_the_run(self):
         self.check(RUN_TEXT, [0, 1, 2, 3], RUN_LIST)
@@ -82,8 +89,11 @@ class PlaceTest(unittest.TestCase):
         places = 65536 // 3
         for i in (0, 1, 63, 64, 5000, places - 1):
             self.assertEqual(place(i, *given), [i])
+            self.assertEqual(piece(i, *given), [i])
         self.assertEqual(place(places, *given), [-4])
-        self.assertEqual(place(0, as_bytes(signs), as_bytes(long_text(65537))), [-2])
+        self.assertEqual(piece(places, *given), [-4])
+        for call in (place, piece):
+            self.assertEqual(call(0, as_bytes(signs), as_bytes(long_text(65537))), [-2])
 
     def test_a_large_text_of_large_blocks(self):
         block = "*".join(["_1", "A1"] * 32)
@@ -92,26 +102,31 @@ class PlaceTest(unittest.TestCase):
         given = (as_bytes(SIGNS), as_bytes(text))
         self.assertEqual(place(10239, *given), [20479])
         self.assertEqual(place(10240, *given), [-4])
+        self.assertEqual([piece(k, *given) for k in (20477, 20478, 20479, 20480)], [[10238], [-5], [10239], [-4]])
         deep = "A1[n" * 63 + "A1" + "]" * 63
-        self.assertEqual(place(64 * 150 - 1, as_bytes(SIGNS), as_bytes((deep + "/") * 150)), [64 * 150 - 1])
+        for call in (place, piece):
+            self.assertEqual(call(64 * 150 - 1, as_bytes(SIGNS), as_bytes((deep + "/") * 150)), [64 * 150 - 1])
 
     def test_nested_as_deep_as_the_text_is_long(self):
         for text in ("(" * 65535 + "/", "A1[n" * 16384, "(A1:" * 16384, "A1[n" * 13000 + "A1" + "]" * 13000 + "/", "<" * 65536):
-            self.assertEqual(place(0, as_bytes(SIGNS), as_bytes(text)), [-6])
+            for call in (place, piece):
+                self.assertEqual(call(0, as_bytes(SIGNS), as_bytes(text)), [-6])
 
     def test_what_is_handed_in_stays(self):
         for i, text in ((0, RUN_TEXT), (9, RUN_TEXT), (1, "A1~%1?[nA2;s_1%1234]:(A3:A2)*A1 ... <A1>/"), (0, "A1"), (0, "B7/"),
-                        (0, "A" * 65537)):
-            given = (Fixed(as_bytes(RUN_LIST)), Fixed(as_bytes(text)))
-            first = place(i, *given)
-            self.assertEqual(given, (as_bytes(RUN_LIST), as_bytes(text)))
-            self.assertEqual(place(i, *given), first)
+                        (0, "_1/"), (0, "A" * 65537)):
+            for call in (place, piece):
+                given = (Fixed(as_bytes(RUN_LIST)), Fixed(as_bytes(text)))
+                first = call(i, *given)
+                self.assertEqual(given, (as_bytes(RUN_LIST), as_bytes(text)))
+                self.assertEqual(call(i, *given), first)
 
     def test_answers_are_lists_of_whole_numbers(self):
-        for i, text in ((0, RUN_TEXT), (9, RUN_TEXT), (0, "A1"), (0, "B7/")):
-            answer = place(i, as_bytes(RUN_LIST), as_bytes(text))
-            self.assertIs(type(answer), list)
-            self.assertEqual([type(number) for number in answer], [int])
+        for i, text in ((0, RUN_TEXT), (9, RUN_TEXT), (0, "A1"), (0, "B7/"), (0, "_1/")):
+            for call in (place, piece):
+                answer = call(i, as_bytes(RUN_LIST), as_bytes(text))
+                self.assertIs(type(answer), list)
+                self.assertEqual([type(number) for number in answer], [int])
 
 
 if __name__ == "__main__":

@@ -1,7 +1,7 @@
 import unittest
 
 from helper import RUN_LIST, as_bytes, long_pattern, long_text
-from signsearch.finds import all_of, count, fits, judge, next_of, order, place, set_of
+from signsearch.finds import all_of, count, fits, judge, next_of, order, piece, place, set_of
 
 WRONG_LIST = "sign A1/"
 WRONG_PATTERN = "A1 "
@@ -150,10 +150,20 @@ class SearchRefusalTest(unittest.TestCase):
 
 
 class PlaceRefusalTest(unittest.TestCase):
-    """place has an own limit of the text's size, and no pattern."""
+    """place and piece have an own limit of the text's size, and no pattern."""
 
     def check(self, number, signs, text, answer):
-        self.assertEqual(place(number, as_bytes(signs), as_bytes(text)), answer)
+        for call in (place, piece):
+            self.assertEqual(call(number, as_bytes(signs), as_bytes(text)), answer, call)
+
+    def test_a_gap_without_a_place(self):
+        given = (as_bytes(RUN_LIST), as_bytes("A1 _1 _1%123 _1%1234/"))
+        self.assertEqual([piece(k, *given) for k in range(6)], [[0], [-5], [-5], [1], [-4], [-4]])
+        # It isn't told of a text that's refused.
+        self.assertEqual(piece(0, as_bytes(RUN_LIST), as_bytes("_1 B7/")), [-9])
+        self.assertEqual(piece(0, as_bytes(RUN_LIST), as_bytes("_1")), [-6])
+        self.assertEqual(piece(0, as_bytes(WRONG_LIST), as_bytes("_1/")), [-3])
+        self.assertEqual(piece(0, as_bytes(RUN_LIST), as_bytes("_1/" * 21846)), [-2])
 
     def test_each_by_itself(self):
         self.check(0, TOO_LONG_LIST, "A1/", [-2])
